@@ -1,0 +1,1 @@
+"""A sorting works: waste is fed, parted by machines into bays, baled or dumped."""
