@@ -4,7 +4,7 @@ Each is given a state of its own to change, and gives back the numbers it
 answers; a refusal is one number below 0.
 """
 
-from sortingbelts.flow import best_settings, fits, put_through
+from sortingbelts.flow import best_settings, fits, put_hopper_through
 from sortingbelts.mixes import KINDS, NOTHING, THOUSAND, added
 from sortingbelts.model import BAYS, MACHINES, MOST_HELD, Machine
 from sortingbelts.refusals import EMPTY, FULL, MISSING, NO_ROOM, UNFIT, WRONG
@@ -106,11 +106,11 @@ def so_run(state):
     kg = sum(state.hopper)
     if kg == 0:
         return [EMPTY]
-    came = put_through(state.machines, state.hopper)
-    if not fits(state, came):
+    places = put_hopper_through(state)
+    if not fits(state, places):
         return [NO_ROOM]
-    for bay, more in zip(state.bays, came):
-        bay.mix = added(bay.mix, more)
+    for bay, mix in zip(state.bays, places):
+        bay.mix = mix
     state.hopper = NOTHING
     return [kg]
 

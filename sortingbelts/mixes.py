@@ -5,6 +5,10 @@ THOUSAND = 1000
 NOTHING = (0, 0, 0, 0, 0, 0)
 
 
+def only(kind, kg):
+    return tuple([kg if other == kind else 0 for other in range(KINDS)])
+
+
 def added(mix, other):
     return tuple([kg + more for kg, more in zip(mix, other)])
 

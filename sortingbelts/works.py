@@ -7,25 +7,42 @@ from sortingbelts.questions import QUESTIONS
 START = 0
 FIRST_CHANGE = 1
 FIRST_QUESTION = 12
+BACK = 28
+AGAIN = 29
 
 # Of each call, by its number: how many whole numbers it has, how many rows behind them.
 SHAPES = (
-    (1, 0),
-    (1, 1),
-    (1, 1),
-    (2, 0),
-    (3, 0),
-    (5, 0),
-    (0, 1),
-    (0, 0),
-    (1, 0),
-    (2, 0),
-    (1, 0),
-    (0, 0),
-    (1, 0),
-    (0, 0),
-    (1, 0),
-    (0, 0),
+    (1, 0),  # so_start
+    (1, 1),  # so_machine
+    (1, 1),  # so_setting
+    (2, 0),  # so_turn
+    (3, 0),  # so_belt
+    (5, 0),  # so_bay
+    (0, 1),  # so_feed
+    (0, 0),  # so_run
+    (1, 0),  # so_bale
+    (2, 0),  # so_dump
+    (1, 0),  # so_return
+    (0, 0),  # so_take
+    (1, 0),  # so_would
+    (0, 0),  # so_loads
+    (1, 0),  # so_pure
+    (0, 0),  # so_best
+    (1, 0),  # so_often
+    (2, 0),  # so_goes
+    (4, 0),  # so_split
+    (0, 0),  # so_hopper
+    (1, 0),  # so_in
+    (0, 0),  # so_sets
+    (0, 0),  # so_belts
+    (0, 0),  # so_bales
+    (1, 0),  # so_look
+    (0, 0),  # so_worth
+    (1, 0),  # so_sums
+    (0, 0),  # so_money
+    (0, 0),  # so_back
+    (0, 0),  # so_again
+    (0, 0),  # so_state
 )
 
 
@@ -62,7 +79,13 @@ def answer_to(history, call, told):
         return history.begin(told[0])
     if call < FIRST_QUESTION:
         return history.change(CHANGES[call - FIRST_CHANGE], told)
-    return history.ask(QUESTIONS[call - FIRST_QUESTION], told)
+    if call < BACK:
+        return history.ask(QUESTIONS[call - FIRST_QUESTION], told)
+    if call == BACK:
+        return history.back()
+    if call == AGAIN:
+        return history.again()
+    return history.standing()
 
 
 def answers(calls):

@@ -1,6 +1,6 @@
 """Which mixes are good for a bay, and what they bring."""
 
-from sortingbelts.mixes import KINDS, THOUSAND, added
+from sortingbelts.mixes import KINDS, THOUSAND
 
 
 def is_good(bay, mix, harm):
@@ -16,11 +16,14 @@ def brought(bay, mix):
     return sum(mix) * bay.price // THOUSAND
 
 
-def worth_with(bays, came, harm):
-    """What the bays are worth once each has, with its own mix, what came to it."""
+def mixes_of(bays):
+    return [bay.mix for bay in bays]
+
+
+def worth_of_all(bays, mixes, harm):
+    """What the bays are worth, were these their mixes."""
     money = 0
-    for bay, more in zip(bays, came):
-        mix = added(bay.mix, more)
+    for bay, mix in zip(bays, mixes):
         if is_good(bay, mix, harm):
             money += brought(bay, mix)
     return money

@@ -69,6 +69,66 @@ def so_best():
     return [15]
 
 
+def so_often(i):
+    return [16, i]
+
+
+def so_goes(kind, kg):
+    return [17, kind, kg]
+
+
+def so_split(k, side, kind, kg):
+    return [18, k, side, kind, kg]
+
+
+def so_hopper():
+    return [19]
+
+
+def so_in(i):
+    return [20, i]
+
+
+def so_sets():
+    return [21]
+
+
+def so_belts():
+    return [22]
+
+
+def so_bales():
+    return [23]
+
+
+def so_look(n):
+    return [24, n]
+
+
+def so_worth():
+    return [25]
+
+
+def so_sums(kind):
+    return [26, kind]
+
+
+def so_money():
+    return [27]
+
+
+def so_back():
+    return [28]
+
+
+def so_again():
+    return [29]
+
+
+def so_state():
+    return [30]
+
+
 def only(kind, kg):
     """A mix of one kind, or thousandths of one kind."""
     return [kg if k == kind else 0 for k in range(6)]
@@ -106,18 +166,37 @@ def would_all():
     return [so_would(i) for i in range(6)]
 
 
+def in_all():
+    return [so_in(i) for i in range(6)]
+
+
+def sums_all():
+    return [so_sums(kind) for kind in range(6)]
+
+
+def telling():
+    """Calls that tell how a works stands and change nothing, but for so_state, whose numbers of changes differ."""
+    told = [so_hopper(), so_sets(), so_belts(), so_bales(), so_worth(), so_money(), so_loads(), so_best()]
+    told += in_all() + sums_all() + would_all()
+    told += [so_look(n) for n in range(4)] + [so_pure(i) for i in range(6)] + [so_often(i) for i in range(6)]
+    told += [so_goes(kind, 98765) for kind in range(6)]
+    return told + [so_split(k, 0, kind, 1000) for k in range(5) for kind in range(6)]
+
+
 def probe():
     """Calls whose answers, together, tell nearly everything of how a works stands.
 
     They change it: behind them, nothing else is asked.
     """
-    told = [so_loads(), so_best()] + would_all() + [so_pure(i) for i in range(6)]
+    told = telling()
     told += [so_turn(k, 0) for k in range(5)]
     told += [so_belt(k, side, 0) for k in range(5) for side in (0, 1)]
     told += [so_setting(k, same(1)) for k in range(5)] + [so_machine(1, same(1))]
+    for s in (1, 2):
+        told += [so_turn(k, s) for k in range(5)] + [so_split(k, 0, kind, 1000) for k in range(5) for kind in range(6)]
     told += [so_return(0), so_best()] + would_all() + [so_run()]
     told += [so_bale(i) for i in range(6)] + [so_dump(i, 7) for i in range(6)]
     told += [so_feed(same(1000))]
     for i in range(6):
         told += [so_belt(0, 0, i), so_belt(0, 1, i), so_loads()]
-    return told + would_all()
+    return told + would_all() + [so_bales(), so_money()] + sums_all()

@@ -20,7 +20,7 @@ def drawn_call(draw):
         so_setting(draw.randrange(5), row),
         so_turn(draw.randrange(5), draw.randrange(3)),
         so_belt(draw.randrange(5), draw.randrange(2), draw.randrange(11)),
-        so_bay(draw.randrange(6), draw.randrange(6), draw.choice((0, 200, 500)), draw.randrange(2000), 20000),
+        so_bay(draw.randrange(6), draw.randrange(6), draw.choice((0, 200, 500)), draw.randrange(2000), draw.choice((1500, 20000))),
         so_feed([draw.randrange(900) for kind in range(6)]),
         so_feed([draw.randrange(9) for kind in range(6)]),
         so_run(),

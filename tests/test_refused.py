@@ -3,8 +3,9 @@
 import unittest
 
 from tests.calls import (
-    HIGHEST, only, play, probe, same, so_bale, so_bay, so_belt, so_best, so_dump, so_feed, so_machine, so_pure,
-    so_return, so_run, so_setting, so_start, so_take, so_turn, so_would,
+    HIGHEST, last, only, play, probe, same, so_again, so_back, so_bale, so_bay, so_belt, so_best, so_dump, so_feed,
+    so_goes, so_in, so_look, so_machine, so_often, so_pure, so_return, so_run, so_setting, so_split, so_start, so_state,
+    so_sums, so_take, so_turn, so_would,
 )
 
 RICH = [
@@ -31,13 +32,16 @@ REFUSED = [
     (so_dump(HIGHEST, 0), -2), (so_dump(0, 1001), -22), (so_dump(4, 0), -6),
     (so_return(6), -2), (so_return(4), -6), (so_take(), -33), (so_best(), -33),
     (so_would(6), -2), (so_pure(6), -2), (so_pure(4), -6),
+    (so_often(6), -2), (so_often(4), -33), (so_goes(6, 0), -22), (so_goes(0, 100001), -22),
+    (so_split(5, 0, 0, 0), -2), (so_split(4, 2, 0, 0), -22), (so_split(4, 0, 6, 0), -22), (so_split(4, 0, 0, 100001), -22),
+    (so_in(6), -2), (so_look(1), -2), (so_look(HIGHEST), -2), (so_sums(6), -22), (so_again(), -2),
 ]
 
 
 class Refused(unittest.TestCase):
     def assertLeavesAll(self, told, refused, number):
-        plain = play(told + probe())
-        tried = play(told + [refused] + probe())
+        plain = play(told + [so_state()] + probe())
+        tried = play(told + [refused, so_state()] + probe())
         self.assertEqual(tried[len(told)], [number], refused)
         self.assertEqual(tried[:len(told)] + tried[len(told) + 1:], plain, refused)
 
@@ -54,6 +58,18 @@ class Refused(unittest.TestCase):
         middle = len(RICH) + len(REFUSED)
         self.assertEqual(tried[len(RICH):middle], [[number] for refused, number in REFUSED])
         self.assertEqual(tried[:len(RICH)] + tried[middle:], plain)
+
+    def test_when_there_is_nothing_to_take_back(self):
+        self.assertLeavesAll([so_start()], so_back(), -2)
+        self.assertLeavesAll([so_start(), so_feed(same(5)), so_back()], so_back(), -2)
+        self.assertLeavesAll(RICH + [so_back()] * 30, so_back(), -2)
+
+    def test_when_something_was_taken_back(self):
+        for refused, number in REFUSED:
+            if refused != so_again():
+                told = RICH + [so_feed(only(0, 1)), so_back()]
+                self.assertLeavesAll(told, refused, number)
+                self.assertEqual(last(told + [refused, so_again()]), [0], refused)
 
     def test_a_full_hopper(self):
         full = RICH + [so_feed(same(10000)), so_feed([5000, 0, 0, 0, 0, 0])]
